@@ -257,11 +257,15 @@ func CarsOn(r Road) (float32, int64) {
 	if !ValidRoad(r) {
 		return 0, ErrInvalid
 	}
+	return carsOn(r), OK
+}
+
+func carsOn(r Road) float32 {
 	sum := r.Cars[0]
 	for i := 1; i < Cells; i++ {
 		sum += r.Cars[i]
 	}
-	return float32(sum * r.Lanes), OK
+	return float32(sum * r.Lanes)
 }
 
 // DensestCell returns the first cell with the greatest share.
