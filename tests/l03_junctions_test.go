@@ -217,16 +217,23 @@ func TestSetTurnOfPlainJunctions(t *testing.T) {
 	wantJunction(t, "two outs", got, code, want, impl.OK)
 }
 
+// TestSetTurnWithOneOut has shares that would make a valid junction, and others that would not: both are out of range.
 func TestSetTurnWithOneOut(t *testing.T) {
-	j := mustEven(t, 3, 1)
-	j.Turns[2][0] = 0.9995
-	want := j
-	want.Turns[2][0] = 1
-	got, code := impl.SetTurn(j, 2, 0, 1)
-	wantJunction(t, "one", got, code, want, impl.OK)
-	for _, share := range []float32{0, smallest, 0.5, 0.9995, belowOne} {
-		got, code := impl.SetTurn(j, 2, 0, share)
-		wantJunction(t, "not one", got, code, impl.Junction{}, impl.ErrState)
+	for ins := int64(1); ins <= 4; ins++ {
+		for _, before := range []float32{1, 0.9995} {
+			j, in := mustEven(t, ins, 1), ins-1
+			want := j
+			j.Turns[in][0] = before
+			got, code := impl.SetTurn(j, in, 0, 1)
+			wantJunction(t, "one", got, code, want, impl.OK)
+			for _, share := range []float32{0, smallest, 0.25, 0.5, 0.999, 0.9995, belowOne} {
+				got, code := impl.SetTurn(j, in, 0, share)
+				wantJunction(t, "not one", got, code, impl.Junction{}, impl.ErrRange)
+			}
+			j.Prior[in] = 0
+			got, code = impl.SetTurn(j, in, 0, 0.5)
+			wantJunction(t, "not one, not valid", got, code, impl.Junction{}, impl.ErrInvalid)
+		}
 	}
 }
 
