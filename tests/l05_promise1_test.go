@@ -205,7 +205,13 @@ func TestPacketsAreWrittenAtOnce(t *testing.T) {
 		})
 	}
 	group.Wait()
-	for range 1000000 { // what has closed its line may still be on its way out
+	wantNobodyLeft(t, before)
+}
+
+// wantNobodyLeft waits for goroutines that are done, but may still be on their way out.
+func wantNobodyLeft(t *testing.T, before int) {
+	t.Helper()
+	for range 1000000 {
 		if runtime.NumGoroutine() <= before {
 			return
 		}
